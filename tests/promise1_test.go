@@ -28,6 +28,45 @@ func resultsOfRules(r impl.Rules, name string, a, b int64) []any {
 	return out
 }
 
+// resultsOfRuleTexts has all results of the functions of chapter 3 for rules, others, a text and a number.
+func resultsOfRuleTexts(r, other impl.Rules, s string, n int64) []any {
+	slam, one := impl.SlamNamed(s)
+	value, two := impl.FieldOf(r, s)
+	changed, three := impl.SetField(r, s, n)
+	read, ok := impl.ReadRules(s)
+	understood, problems, four := impl.CheckRules(s)
+	fields, five := impl.DifferentFields(r, other)
+	game, far, six := impl.NearestGame(r)
+	return []any{
+		impl.SlamName(n), impl.CaptureName(n), impl.FieldNames(), impl.RulesText(r), slam, one, value, two, changed, three,
+		read, ok, understood, problems, four, fields, five, game, far, six,
+		impl.ProblemText(impl.Problem{Kind: n, At: n, Word: s}),
+	}
+}
+
+func TestEqualArgumentsHaveEqualResultsInRuleTexts(t *testing.T) {
+	texts := []string{
+		"", " ", "take", "pits", "again", "\xff\x00", "pits=3 seeds=2", "again skip skip pits=x blue", strings.Repeat("a ", 5000),
+		"pits=3 seeds=2 capture=two-three slam=take feed",
+	}
+	numbers := append([]int64{0, 1, 2, 3, 4, 5, 6, 7}, extremes...)
+	rules := append(invalidRules(), impl.Rules{Pits: 2, Seeds: 1})
+	for _, r := range standardTable() {
+		rules = append(rules, r)
+	}
+	for _, s := range texts {
+		for _, n := range numbers {
+			for i, r := range rules {
+				other := rules[len(rules)-1-i]
+				one, two := resultsOfRuleTexts(r, other, s, n), resultsOfRuleTexts(r, other, s, n)
+				if !reflect.DeepEqual(one, two) {
+					t.Errorf("%+v, %+v, %q, %d: %v and %v", r, other, s, n, one, two)
+				}
+			}
+		}
+	}
+}
+
 func TestEqualArgumentsHaveEqualResults(t *testing.T) {
 	texts := []string{"", " ", "oware", "oware-6", "-12", "a b  c", "\xff\x00", "999999999999999999", strings.Repeat("a ", 5000)}
 	numbers := append([]int64{0, 1, 2, 3, 5, 10, 11}, extremes...)
