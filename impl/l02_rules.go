@@ -48,10 +48,14 @@ func (r Rules) checkMove(player, move int64) int64 {
 	if !ValidRules(r) {
 		return ErrInvalid
 	}
-	if player < 0 || player > 1 || move < 0 || move >= r.Pits {
+	if !isPlayer(player) || move < 0 || move >= r.Pits {
 		return ErrRange
 	}
 	return OK
+}
+
+func isPlayer(n int64) bool {
+	return n == 0 || n == 1
 }
 
 // ValidRules reports whether r is valid.

@@ -44,6 +44,38 @@ func resultsOfRuleTexts(r, other impl.Rules, s string, n int64) []any {
 	}
 }
 
+// resultsOfPositions has all results of the functions of chapter 4 for rules, two positions, a text and a number.
+func resultsOfPositions(r impl.Rules, p, other impl.Position, s string, n int64) []any {
+	start, one := impl.StartPosition(r)
+	turn, two := impl.TurnPosition(r, p)
+	view, three := impl.ViewOf(r, p)
+	all, four := impl.SeedsOn(r, p)
+	side, five := impl.SideSeeds(r, p, n)
+	read, ok := impl.ReadPosition(r, s)
+	return []any{
+		impl.ValidPosition(r, p), impl.SamePosition(p, other), impl.IsWhole(r, p), impl.ComparePositions(p, other),
+		impl.PositionText(r, p), start, one, turn, two, view, three, all, four, side, five, read, ok,
+	}
+}
+
+func TestEqualArgumentsHaveEqualResultsInPositions(t *testing.T) {
+	for _, r := range append(boards(), invalidRules()...) {
+		positions := append(validPositions(boards()[1]), invalidPositions(boards()[1])...)
+		if impl.ValidRules(r) {
+			positions = append(validPositions(r), invalidPositions(r)...)
+		}
+		for i, p := range positions {
+			other, s := positions[len(positions)-1-i], textOfPosition(p)
+			for _, n := range []int64{0, 1, 2, extremes[i%len(extremes)]} {
+				one, two := resultsOfPositions(r, p, other, s, n), resultsOfPositions(r, clonePosition(p), other, s, n)
+				if !reflect.DeepEqual(one, two) {
+					t.Errorf("%+v, %+v, %+v, %q, %d: %v and %v", r, p, other, s, n, one, two)
+				}
+			}
+		}
+	}
+}
+
 func TestEqualArgumentsHaveEqualResultsInRuleTexts(t *testing.T) {
 	texts := []string{
 		"", " ", "take", "pits", "again", "\xff\x00", "pits=3 seeds=2", "again skip skip pits=x blue", strings.Repeat("a ", 5000),
