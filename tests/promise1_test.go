@@ -58,6 +58,38 @@ func resultsOfPositions(r impl.Rules, p, other impl.Position, s string, n int64)
 	}
 }
 
+// resultsOfSowing has all results of the functions of chapter 5 for rules, a position, what is sown, and three numbers.
+func resultsOfSowing(r impl.Rules, p impl.Position, s impl.Sown, player, move, seeds int64) []any {
+	lap, one := impl.SowLap(r, p, move)
+	all, two := impl.SowMove(r, p, move)
+	path, three := impl.SowPath(r, p, move)
+	length, four := impl.LapLength(r)
+	last, five := impl.LastPlace(r, player, move, seeds)
+	return []any{
+		lap, one, all, two, path, three, length, four, last, five,
+		impl.IsEndless(r, p, move), impl.SownSeeds(s), impl.SameSown(s, lap), impl.SameSown(all, s),
+	}
+}
+
+func TestEqualArgumentsHaveEqualResultsInSowing(t *testing.T) {
+	for _, r := range append(allSowingRules(), invalidRules()...) {
+		positions := append(validPositions(boards()[1]), invalidPositions(boards()[1])...)
+		if impl.ValidRules(r) {
+			positions = append(fullPositions(r)[:10], append(validPositions(r), invalidPositions(r)...)...)
+		}
+		for i, p := range positions {
+			s := impl.Sown{Pits: p.Pits, Stores: p.Stores, Last: p.Player, Laps: extremes[i%len(extremes)]}
+			for _, n := range []int64{0, 1, r.Pits, extremes[i%len(extremes)]} {
+				one := resultsOfSowing(r, p, s, n, n, n)
+				two := resultsOfSowing(r, clonePosition(p), cloneSown(s), n, n, n)
+				if !reflect.DeepEqual(one, two) {
+					t.Errorf("%+v, %+v, %+v, %d: %v and %v", r, p, s, n, one, two)
+				}
+			}
+		}
+	}
+}
+
 func TestEqualArgumentsHaveEqualResultsInPositions(t *testing.T) {
 	for _, r := range append(boards(), invalidRules()...) {
 		positions := append(validPositions(boards()[1]), invalidPositions(boards()[1])...)
