@@ -54,6 +54,11 @@ func (r Rules) checkMove(player, move int64) int64 {
 	return OK
 }
 
+// owns reports whether a place is a pit of a player; r is valid.
+func (r Rules) owns(player, place int64) bool {
+	return place >= player*r.Pits && place < (player+1)*r.Pits
+}
+
 func isPlayer(n int64) bool {
 	return n == 0 || n == 1
 }

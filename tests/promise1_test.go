@@ -71,6 +71,39 @@ func resultsOfSowing(r impl.Rules, p impl.Position, s impl.Sown, player, move, s
 	}
 }
 
+// resultsOfCaptures has all results of the functions of chapter 6 for rules, what is sown, a number and a text.
+func resultsOfCaptures(r impl.Rules, s impl.Sown, n int64, name string) []any {
+	pits, one := impl.CapturePits(r, s, n)
+	gain, two := impl.CaptureGain(r, s, n)
+	after, three := impl.TakeCaptures(r, s, n)
+	kind, four := impl.CaptureNamed(name)
+	return []any{
+		pits, one, gain, two, after, three, kind, four, impl.IsSlam(r, s, n), impl.ValidSown(r, s, n), impl.CaptureName(n),
+	}
+}
+
+func TestEqualArgumentsHaveEqualResultsInCaptures(t *testing.T) {
+	names := []string{"", "none", "even", "Even", "even ", "\xff", strings.Repeat("a", 5000)}
+	for _, r := range append(allCaptureRules(), invalidRules()...) {
+		positions := append(validPositions(boards()[1]), invalidPositions(boards()[1])...)
+		if impl.ValidRules(r) {
+			positions = append(thinSides(r)[:10], append(validPositions(r), invalidPositions(r)...)...)
+		}
+		for i, p := range positions {
+			for _, last := range []int64{-1, 0, r.Pits, int64(i % 16), extremes[i%len(extremes)]} {
+				s := impl.Sown{Pits: p.Pits, Stores: p.Stores, Last: last, Laps: 1}
+				for _, n := range []int64{0, 1, 2, extremes[i%len(extremes)]} {
+					name := names[i%len(names)]
+					one, two := resultsOfCaptures(r, s, n, name), resultsOfCaptures(r, cloneSown(s), n, name)
+					if !reflect.DeepEqual(one, two) {
+						t.Errorf("%+v, %+v, %d, %q: %v and %v", r, s, n, name, one, two)
+					}
+				}
+			}
+		}
+	}
+}
+
 func TestEqualArgumentsHaveEqualResultsInSowing(t *testing.T) {
 	for _, r := range append(allSowingRules(), invalidRules()...) {
 		positions := append(validPositions(boards()[1]), invalidPositions(boards()[1])...)
