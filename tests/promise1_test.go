@@ -82,6 +82,37 @@ func resultsOfCaptures(r impl.Rules, s impl.Sown, n int64, name string) []any {
 	}
 }
 
+// resultsOfMoves has all results of the functions of chapter 7 for rules, a position, a move and a list of results.
+func resultsOfMoves(r impl.Rules, p impl.Position, move int64, others []impl.Result) []any {
+	legal, one := impl.LegalMoves(r, p)
+	next, gain, two := impl.MakeMove(r, p, move)
+	list, three := impl.ResultsOf(r, p)
+	best, most, four := impl.GreedyMove(r, p)
+	return []any{
+		legal, one, next, gain, two, list, three, best, most, four, impl.MoveFault(r, p, move), impl.CanMove(r, p),
+		impl.MovesAgain(r, p, move), impl.SameResults(list, others), impl.SameResults(others, list), impl.MustFeed(r, p),
+	}
+}
+
+func TestEqualArgumentsHaveEqualResultsInMoves(t *testing.T) {
+	for _, r := range append(someMoveRules(), invalidRules()...) {
+		positions := append(validPositions(boards()[1]), invalidPositions(boards()[1])...)
+		if impl.ValidRules(r) {
+			positions = append(movePositions(r), append(validPositions(r), invalidPositions(r)...)...)
+		}
+		for i, p := range positions {
+			others, _ := impl.ResultsOf(r, positions[i/2])
+			for _, move := range []int64{0, 1, r.Pits, extremes[i%len(extremes)]} {
+				one := resultsOfMoves(r, p, move, others)
+				two := resultsOfMoves(r, clonePosition(p), move, cloneResults(others))
+				if !reflect.DeepEqual(one, two) {
+					t.Errorf("%+v, %+v, %d, %+v: %v and %v", r, p, move, others, one, two)
+				}
+			}
+		}
+	}
+}
+
 func TestEqualArgumentsHaveEqualResultsInCaptures(t *testing.T) {
 	names := []string{"", "none", "even", "Even", "even ", "\xff", strings.Repeat("a", 5000)}
 	for _, r := range append(allCaptureRules(), invalidRules()...) {
