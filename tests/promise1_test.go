@@ -1,7 +1,9 @@
 package tests
 
 import (
+	"math"
 	"reflect"
+	"slices"
 	"strings"
 	"testing"
 
@@ -91,6 +93,44 @@ func resultsOfMoves(r impl.Rules, p impl.Position, move int64, others []impl.Res
 	return []any{
 		legal, one, next, gain, two, list, three, best, most, four, impl.MoveFault(r, p, move), impl.CanMove(r, p),
 		impl.MovesAgain(r, p, move), impl.SameResults(list, others), impl.SameResults(others, list), impl.MustFeed(r, p),
+	}
+}
+
+// resultsOfGames has all results of the functions of chapter 8 for two games, a position, a number and a list of moves.
+func resultsOfGames(g, other impl.Game, p impl.Position, n int64, moves []int64) []any {
+	begun, one := impl.NewGame(g.Rules)
+	from, two := impl.GameFrom(g.Rules, p)
+	more, three := impl.PlayMove(g, n)
+	many, made, four := impl.PlayMoves(g, moves)
+	less, five := impl.UndoMove(g)
+	given, six := impl.ResignGame(g, n)
+	history, seven := impl.HistoryOf(g)
+	movers, eight := impl.MoversOf(g)
+	gains, nine := impl.GainsOf(g)
+	repeats, ten := impl.RepeatsOf(g)
+	return []any{
+		impl.ValidGame(g), impl.SameGame(g, other), impl.SameGame(other, g), begun, one, from, two, more, three, many, made, four,
+		less, five, given, six, history, seven, movers, eight, gains, nine, repeats, ten,
+	}
+}
+
+func TestEqualArgumentsHaveEqualResultsInGames(t *testing.T) {
+	lists := [][]int64{nil, {}, {0, 1, 0}, {1, 1}, extremes, make([]int64, 5000), {math.MaxInt64}}
+	for i, w := range fewGames() {
+		games := append(invalidGames(w), spoiledGames(w.game)...)
+		for j, g := range append(games, w.game, w.game, w.game) {
+			if j%7 != i%7 && j < len(games) {
+				continue
+			}
+			other, moves := games[(i*j)%len(games)], lists[j%len(lists)]
+			for _, n := range []int64{0, 1, extremes[j%len(extremes)]} {
+				one := resultsOfGames(g, other, g.Now, n, moves)
+				two := resultsOfGames(cloneGame(g), cloneGame(other), clonePosition(g.Now), n, slices.Clone(moves))
+				if !reflect.DeepEqual(one, two) {
+					t.Errorf("%+v, %+v, %d, %v: %v and %v", g, other, n, moves, one, two)
+				}
+			}
+		}
 	}
 }
 
