@@ -114,6 +114,43 @@ func resultsOfGames(g, other impl.Game, p impl.Position, n int64, moves []int64)
 	}
 }
 
+// resultsOfEndings has all results of the functions of chapter 9 for a game, a position and a number.
+func resultsOfEndings(g impl.Game, p impl.Position, n int64) []any {
+	majority, one := impl.MajorityOf(g.Rules, p)
+	needed, two := impl.NeededFor(g.Rules, p, n)
+	settled, three := impl.SettlePosition(g.Rules, p)
+	given, four := impl.GivePosition(g.Rules, p, n)
+	lead, five := impl.LeadOf(g.Rules, p)
+	end, six := impl.EndOf(g)
+	final, seven := impl.FinalPosition(g)
+	scores, eight := impl.ScoresOf(g)
+	winner, nine := impl.WinnerOf(g)
+	cut, ten := impl.CutGame(g)
+	return []any{
+		impl.EndName(n), majority, one, needed, two, settled, three, given, four, lead, five,
+		end, six, final, seven, scores, eight, winner, nine, cut, ten,
+	}
+}
+
+func TestEqualArgumentsHaveEqualResultsInEndings(t *testing.T) {
+	numbers := append([]int64{0, 1, 2, 3, 4, 5, 6}, extremes...)
+	for i, w := range fewGames() {
+		given, _ := w.given(int64(i % 2))
+		games := append(invalidGames(w), spoiledGames(given.game)...)
+		for j, g := range append(games, w.game, given.game, w.cut().game, circle(i%121).game) {
+			if j%5 != i%5 && j < len(games) {
+				continue
+			}
+			n := numbers[(i+j)%len(numbers)]
+			one := resultsOfEndings(g, g.Now, n)
+			two := resultsOfEndings(cloneGame(g), clonePosition(g.Now), n)
+			if !reflect.DeepEqual(one, two) {
+				t.Errorf("%+v, %d: %v and %v", g, n, one, two)
+			}
+		}
+	}
+}
+
 func TestEqualArgumentsHaveEqualResultsInGames(t *testing.T) {
 	lists := [][]int64{nil, {}, {0, 1, 0}, {1, 1}, extremes, make([]int64, 5000), {math.MaxInt64}}
 	for i, w := range fewGames() {
