@@ -132,6 +132,85 @@ func resultsOfEndings(g impl.Game, p impl.Position, n int64) []any {
 	}
 }
 
+// resultsOfRecords has all results of the functions of chapter 10 for a game, a list of moves, a text and a number.
+func resultsOfRecords(g impl.Game, moves []int64, s string, n int64) []any {
+	read, one := impl.ReadMoves(s)
+	game, two := impl.ReadRecord(s)
+	at, fault, three := impl.CheckRecord(s)
+	notes, four := impl.NotesOn(g)
+	summary, five := impl.SummaryOf(g)
+	return []any{
+		impl.MovesText(moves), read, one, impl.RecordText(g), game, two, at, fault, three, impl.LineFault(n), notes, four, summary, five,
+	}
+}
+
+// resultsOfExplanations has all results of the functions of chapter 11 for rules, a position, a move, facts, others, and a text.
+func resultsOfExplanations(r impl.Rules, p impl.Position, move int64, facts, others []impl.Fact, s string) []any {
+	list, one := impl.FactsOf(r, p, move)
+	after, two := impl.ApplyFacts(r, p, facts)
+	read, three := impl.ReadFact(s)
+	reason, four := impl.WhyNot(r, p, move)
+	texts, five := impl.ExplainMove(r, p, move)
+	pits, six := impl.TouchedPits(r, p, move)
+	seeds, seven := impl.SeedsMoved(r, p, move)
+	out := []any{
+		impl.SameFacts(facts, others), impl.SameFacts(others, facts), impl.SameFacts(facts, list), list, one, after, two, read, three,
+		reason, four, texts, five, pits, six, seeds, seven,
+	}
+	for _, f := range facts[:min(len(facts), 20)] {
+		out = append(out, impl.FactText(f))
+	}
+	return out
+}
+
+func TestEqualArgumentsHaveEqualResultsInExplanations(t *testing.T) {
+	texts := []string{"", " ", "turn", "again", "take 3 from 2", "sow 3 into store", "sow 0 into 1", "\xff\x00", strings.Repeat("sow ", 5000)}
+	lists := append(spoiledFacts(), nil, []impl.Fact{}, slices.Repeat([]impl.Fact{{Kind: 6}}, 3000), slices.Repeat([]impl.Fact{{Kind: 6}}, 3001))
+	for i, r := range append(someMoveRules(), invalidRules()...) {
+		positions := append(validPositions(boards()[1]), invalidPositions(boards()[1])...)
+		if impl.ValidRules(r) {
+			positions = append(movePositions(r), invalidPositions(r)...)
+		}
+		for j, p := range positions {
+			if (i+j)%3 > 0 {
+				continue
+			}
+			for k, move := range []int64{0, 1, r.Pits, extremes[j%len(extremes)]} {
+				facts, _ := impl.FactsOf(r, p, 0)
+				others, s := lists[(i+j+k)%len(lists)], texts[(i+j+k)%len(texts)]
+				if k%2 == 1 {
+					facts, others = others, facts
+				}
+				one := resultsOfExplanations(r, p, move, facts, others, s)
+				two := resultsOfExplanations(r, clonePosition(p), move, slices.Clone(facts), slices.Clone(others), s)
+				if !reflect.DeepEqual(one, two) {
+					t.Errorf("%+v, %+v, %d, %v, %v, %q: %v and %v", r, p, move, facts, others, s, one, two)
+				}
+			}
+		}
+	}
+}
+
+func TestEqualArgumentsHaveEqualResultsInRecords(t *testing.T) {
+	numbers := append([]int64{0, 1, 7, 8}, extremes...)
+	texts := append(shortRecords(), "", "\n", "1 2 3", "x", "\xff\x00", strings.Repeat("1 ", 5000), strings.Repeat("\n", 4000), recordOf(circle(120)))
+	for i, w := range fewGames() {
+		given, _ := w.given(int64(i % 2))
+		games := append(invalidGames(w), spoiledGames(given.game)...)
+		for j, g := range append(games, w.game, given.game, circle(i%121).game) {
+			if j%7 != i%7 && j < len(games) {
+				continue
+			}
+			s, n := texts[(i+j)%len(texts)], numbers[(i+j)%len(numbers)]
+			one := resultsOfRecords(g, g.Moves, s, n)
+			two := resultsOfRecords(cloneGame(g), slices.Clone(g.Moves), strings.Clone(s), n)
+			if !reflect.DeepEqual(one, two) {
+				t.Errorf("%+v, %q, %d: %v and %v", g, s, n, one, two)
+			}
+		}
+	}
+}
+
 func TestEqualArgumentsHaveEqualResultsInEndings(t *testing.T) {
 	numbers := append([]int64{0, 1, 2, 3, 4, 5, 6}, extremes...)
 	for i, w := range fewGames() {
