@@ -163,6 +163,34 @@ func resultsOfExplanations(r impl.Rules, p impl.Position, move int64, facts, oth
 	return out
 }
 
+// resultsOfDistributions has all results of the functions of chapter 12 for a list and three numbers.
+func resultsOfDistributions(pits []int64, a, b, c int64) []any {
+	ways, one := impl.Choose(a, b)
+	count, two := impl.CountSeeds(a, b)
+	rank, three := impl.RankSeeds(pits)
+	list, four := impl.UnrankSeeds(a, b, c)
+	next, five := impl.NextSeeds(pits)
+	last, six := impl.LastSeeds(pits)
+	all, seven := impl.AllSeeds(a, b)
+	return []any{ways, one, count, two, rank, three, list, four, next, five, last, six, all, seven, impl.ValidSeeds(pits)}
+}
+
+func TestEqualArgumentsHaveEqualResultsInDistributions(t *testing.T) {
+	numbers := append([]int64{0, 1, 2, 3, 17, 56, 57, 96, 97, 200, 201, 2999, 1e15}, extremes...)
+	lists := append(invalidLists(), []int64{0, 3, 0}, []int64{0, 2}, []int64{2, 0}, slices.Repeat([]int64{3}, 16))
+	for i, a := range numbers {
+		for j, b := range numbers {
+			for k, c := range numbers {
+				list := lists[(i+7*j+5*k)%len(lists)]
+				one, two := resultsOfDistributions(list, a, b, c), resultsOfDistributions(slices.Clone(list), a, b, c)
+				if !reflect.DeepEqual(one, two) {
+					t.Errorf("%v, %d, %d, %d: %v and %v", list, a, b, c, one, two)
+				}
+			}
+		}
+	}
+}
+
 func TestEqualArgumentsHaveEqualResultsInExplanations(t *testing.T) {
 	texts := []string{"", " ", "turn", "again", "take 3 from 2", "sow 3 into store", "sow 0 into 1", "\xff\x00", strings.Repeat("sow ", 5000)}
 	lists := append(spoiledFacts(), nil, []impl.Fact{}, slices.Repeat([]impl.Fact{{Kind: 6}}, 3000), slices.Repeat([]impl.Fact{{Kind: 6}}, 3001))
