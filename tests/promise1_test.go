@@ -175,6 +175,39 @@ func resultsOfDistributions(pits []int64, a, b, c int64) []any {
 	return []any{ways, one, count, two, rank, three, list, four, next, five, last, six, all, seven, impl.ValidSeeds(pits)}
 }
 
+// resultsOfNumbers has all results of the functions of chapter 13 for rules, two positions and two numbers.
+func resultsOfNumbers(r impl.Rules, p, other impl.Position, a, b int64) []any {
+	count, one := impl.CountPositions(r, a)
+	number, two := impl.NumberOf(r, p)
+	numbered, three := impl.PositionAt(r, a, b)
+	first, four := impl.FirstIndex(r, a)
+	index, five := impl.IndexOf(r, p)
+	at, six := impl.AtIndex(r, b)
+	return []any{
+		count, one, number, two, numbered, three, first, four, index, five, at, six, impl.SameNumber(r, p, other), impl.SameNumber(r, other, p),
+	}
+}
+
+func TestEqualArgumentsHaveEqualResultsInNumbers(t *testing.T) {
+	numbers := append([]int64{0, 1, 2, 17, 91, 92, 96, 97, 1e9 - 1, 1e9}, extremes...)
+	for i, r := range append(boards(), invalidRules()...) {
+		positions := append(validPositions(boards()[1]), invalidPositions(boards()[1])...)
+		if impl.ValidRules(r) {
+			positions = append(validPositions(r), invalidPositions(r)...)
+		}
+		for j, p := range positions {
+			other := positions[(i+3*j)%len(positions)]
+			for k, a := range numbers {
+				b := numbers[(i+j+5*k)%len(numbers)]
+				one, two := resultsOfNumbers(r, p, other, a, b), resultsOfNumbers(r, clonePosition(p), clonePosition(other), a, b)
+				if !reflect.DeepEqual(one, two) {
+					t.Errorf("%+v, %+v, %+v, %d, %d: %v and %v", r, p, other, a, b, one, two)
+				}
+			}
+		}
+	}
+}
+
 func TestEqualArgumentsHaveEqualResultsInDistributions(t *testing.T) {
 	numbers := append([]int64{0, 1, 2, 3, 17, 56, 57, 96, 97, 200, 201, 2999, 1e15}, extremes...)
 	lists := append(invalidLists(), []int64{0, 3, 0}, []int64{0, 2}, []int64{2, 0}, slices.Repeat([]int64{3}, 16))
