@@ -188,6 +188,44 @@ func resultsOfNumbers(r impl.Rules, p, other impl.Position, a, b int64) []any {
 	}
 }
 
+// resultsOfPacking has all results of the functions of chapter 14 for a list, runs, a text and two numbers.
+func resultsOfPacking(list []int64, runs []impl.Run, s string, n, at int64) []any {
+	put, one := impl.PutNumber(n)
+	got, end, two := impl.GetNumber(s, at)
+	found, three := impl.RunsOf(list)
+	back, four := impl.FromRuns(runs)
+	packed, five := impl.PackList(list)
+	unpacked, six := impl.UnpackList(s)
+	size, seven := impl.PackedSize(list)
+	return []any{put, one, got, end, two, found, three, back, four, packed, five, unpacked, six, size, seven, impl.ChecksumOf(s)}
+}
+
+func TestEqualArgumentsHaveEqualResultsInPacking(t *testing.T) {
+	numbers := append([]int64{0, 1, 2, 63, 64, 8192, 1e6, 1e6 + 1, -1e6, -1e6 - 1}, extremes...)
+	texts := []string{"", "\x00", "\x80", "\xff\x00", "\x00\x00\x1f", "\x02\x00\x06\x7b\xe7", "\x02\x00\x06\x7b\xe8", withChecksum("\x01"), strings.Repeat("\xff", 5000)}
+	for _, list := range shortLists()[:20] {
+		texts = append(texts, packedOf(list))
+	}
+	lists := append(shortLists(), unpackable()...)
+	for _, cases := range runCases() {
+		for i, runs := range cases {
+			for j, s := range texts {
+				for k, n := range numbers {
+					if (i+j+k)%3 > 0 {
+						continue
+					}
+					list, at := lists[(i+3*j+5*k)%len(lists)], numbers[(i+2*j+3*k)%len(numbers)]
+					one := resultsOfPacking(list, runs, s, n, at)
+					two := resultsOfPacking(slices.Clone(list), slices.Clone(runs), strings.Clone(s), n, at)
+					if !reflect.DeepEqual(one, two) {
+						t.Errorf("%v, %v, %q, %d, %d: %v and %v", list, runs, s, n, at, one, two)
+					}
+				}
+			}
+		}
+	}
+}
+
 func TestEqualArgumentsHaveEqualResultsInNumbers(t *testing.T) {
 	numbers := append([]int64{0, 1, 2, 17, 91, 92, 96, 97, 1e9 - 1, 1e9}, extremes...)
 	for i, r := range append(boards(), invalidRules()...) {
